@@ -1,0 +1,1 @@
+"""A room's acoustics: paths. The calls lie in roompaths.paths."""

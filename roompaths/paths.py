@@ -1,0 +1,190 @@
+"""A room's acoustics: the ways of sound between two points of a room.
+
+A room is its list, as it is handed in.
+A point is four whole numbers (x, y, z, over): its place is x, y and z, each over
+the fourth, which is at least 1. So a fraction stays exact.
+A plane is four whole numbers (a, b, c, d): the places with a * x + b * y + c * z = d.
+"""
+
+CORNERS_LEAST = 3
+CORNERS_MOST = 64
+LENGTH_MOST = 4095
+STUFF_MOST = 7
+WALLS_MOST = 4
+
+
+def count_corners(room):
+    return (len(room) - 3) // 3
+
+
+def corner(room, i):
+    """Corner i as a point; behind the last one comes corner 0 again."""
+    at = 3 + 3 * (i % count_corners(room))
+    return (room[at], room[at + 1], 0, 1)
+
+
+def run(room, i):
+    """How far line i goes along x and along y."""
+    start = corner(room, i)
+    end = corner(room, i + 1)
+    return (end[0] - start[0], end[1] - start[1])
+
+
+def side(a, b, p):
+    """In plan: above 0 if p is to the left of the way from a to b, 0 if on its line, else below 0."""
+    by_x = a[0] * (b[1] * p[3] - p[1] * b[3])
+    by_y = a[1] * (b[0] * p[3] - p[0] * b[3])
+    return by_x - by_y + a[3] * (b[0] * p[1] - p[0] * b[1])
+
+
+def spread(p, a, b):
+    """Of p on the line of a and b in plan: below 0 if strictly between them, 0 if at one, else above 0."""
+    along_x = (a[0] * p[3] - p[0] * a[3]) * (b[0] * p[3] - p[0] * b[3])
+    along_y = (a[1] * p[3] - p[1] * a[3]) * (b[1] * p[3] - p[1] * b[3])
+    return along_x + along_y
+
+
+def has_form(room):
+    if len(room) < 3 or len(room) % 3 != 0:
+        return False
+    return CORNERS_LEAST <= count_corners(room) <= CORNERS_MOST
+
+
+def is_stuff(number):
+    return 0 <= number <= STUFF_MOST
+
+
+def has_right_head(room):
+    return 1 <= room[0] <= LENGTH_MOST and is_stuff(room[1]) and is_stuff(room[2])
+
+
+def is_corner_right(room, i):
+    at = 3 + 3 * i
+    in_reach = 0 <= room[at] <= LENGTH_MOST and 0 <= room[at + 1] <= LENGTH_MOST
+    return in_reach and is_stuff(room[at + 2])
+
+
+def has_direction(room, i):
+    """Whether line i has a length and runs in one of the eight directions."""
+    x = abs(run(room, i)[0])
+    y = abs(run(room, i)[1])
+    return x + y > 0 and (x == 0 or y == 0 or x == y)
+
+
+def goes_straight_on(room, i):
+    """Whether line i and the next one run in one direction or in opposite ones."""
+    here = run(room, i)
+    there = run(room, i + 1)
+    return here[0] * there[1] == here[1] * there[0]
+
+
+def lines_meet(room, i, j):
+    """Whether lines i and j, their ends among them, have a point in common."""
+    a = corner(room, i)
+    b = corner(room, i + 1)
+    c = corner(room, j)
+    d = corner(room, j + 1)
+    if side(a, b, c) == 0 and side(a, b, d) == 0:
+        return spread(c, a, b) <= 0 or spread(d, a, b) <= 0 or spread(a, c, d) <= 0
+    return side(a, b, c) * side(a, b, d) <= 0 and side(c, d, a) * side(c, d, b) <= 0
+
+
+def meets_another(room, i):
+    """Whether line i has a point in common with a line that isn't its neighbour."""
+    n = count_corners(room)
+    for j in range(n):
+        if (j - i) % n not in (0, 1, n - 1) and lines_meet(room, i, j):
+            return True
+    return False
+
+
+def twice_the_area(room):
+    """Above 0 if the room is to the left of its lines as they are walked."""
+    area = 0
+    for i in range(count_corners(room)):
+        start = corner(room, i)
+        end = corner(room, i + 1)
+        area = area + start[0] * end[1] - start[1] * end[0]
+    return area
+
+
+def breaks_rule(room, rule, i):
+    if rule == 3:
+        return not is_corner_right(room, i)
+    if rule == 4:
+        return not has_direction(room, i)
+    if rule == 5:
+        return goes_straight_on(room, i)
+    return meets_another(room, i)
+
+
+def room_fault(room):
+    """The room's first fault as [rule, wall]; an empty list if it has none."""
+    if not has_form(room):
+        return [1, 0]
+    if not has_right_head(room):
+        return [2, 0]
+    for rule in (3, 4, 5, 6):
+        for i in range(count_corners(room)):
+            if breaks_rule(room, rule, i):
+                return [rule, i]
+    if twice_the_area(room) < 0:
+        return [7, 0]
+    return []
+
+
+def refusal(room, walls):
+    """The refusal that a room and the walls call for; an empty list if there is none."""
+    fault = room_fault(room)
+    if len(fault) > 0:
+        return [-5] + fault
+    if len(walls) > WALLS_MOST:
+        return [-1]
+    for wall in walls:
+        if wall > count_corners(room) + 1:
+            return [-1]
+    return []
+
+
+def plane(room, wall):
+    n = count_corners(room)
+    if wall == n:
+        return (0, 0, 1, 0)
+    if wall == n + 1:
+        return (0, 0, 1, room[0])
+    start = corner(room, wall)
+    way = run(room, wall)
+    # Eight directions: over the longer of the two, both become -1, 0 or 1.
+    longer = max(abs(way[0]), abs(way[1]))
+    a = -way[1] // longer
+    b = way[0] // longer
+    return (a, b, 0, a * start[0] + b * start[1])
+
+
+def gap(flat, p):
+    """Above 0 on one side of the plane, below 0 on the other, 0 on it."""
+    return flat[0] * p[0] + flat[1] * p[1] + flat[2] * p[2] - flat[3] * p[3]
+
+
+def mirrored(flat, p):
+    # The square of a, b, c together is 1 or 2, so the step across is whole.
+    square = flat[0] * flat[0] + flat[1] * flat[1] + flat[2] * flat[2]
+    step = 2 // square * gap(flat, p)
+    return (p[0] - step * flat[0], p[1] - step * flat[1], p[2] - step * flat[2], p[3])
+
+
+def images(room, s, walls):
+    """s, then s mirrored in the first of the walls, that one in the second, and so on."""
+    found = [s]
+    for wall in walls:
+        found.append(mirrored(plane(room, wall), found[-1]))
+    return found
+
+
+def image(sx, sy, sz, room, walls):
+    """0 and the point s mirrored in the walls one after another, or the refusal."""
+    refused = refusal(room, walls)
+    if len(refused) > 0:
+        return refused
+    last = images(room, (sx, sy, sz, 1), walls)[-1]
+    return [0, last[0], last[1], last[2]]
