@@ -45,9 +45,7 @@ def spread(p, a, b):
 
 
 def has_form(room):
-    if len(room) < 3 or len(room) % 3 != 0:
-        return False
-    return CORNERS_LEAST <= count_corners(room) <= CORNERS_MOST
+    return len(room) % 3 == 0 and CORNERS_LEAST <= count_corners(room) <= CORNERS_MOST
 
 
 def is_stuff(number):
@@ -181,6 +179,112 @@ def images(room, s, walls):
     return found
 
 
+def is_within_lines(room, p):
+    """Whether in plan p is strictly within the lines, on none of them."""
+    crossed = 0
+    for i in range(count_corners(room)):
+        a = corner(room, i)
+        b = corner(room, i + 1)
+        where = side(a, b, p)
+        if where == 0 and spread(p, a, b) <= 0:
+            return False
+        # A corner level with p counts as below it, so a ray that passes a corner
+        # from p along x is counted once for the two lines that meet there, or not.
+        a_above = a[1] * p[3] > p[1]
+        b_above = b[1] * p[3] > p[1]
+        if (b_above and not a_above and where > 0) or (a_above and not b_above and where < 0):
+            crossed = crossed + 1
+    return crossed % 2 == 1
+
+
+def is_between_floor_and_ceiling(room, p):
+    return 0 < p[2] < room[0] * p[3]
+
+
+def is_inside(room, p):
+    return is_between_floor_and_ceiling(room, p) and is_within_lines(room, p)
+
+
+def is_in_wall(room, wall, p):
+    """Whether p, a point of the wall's plane, is in the open wall."""
+    if wall >= count_corners(room):
+        return is_within_lines(room, p)
+    between = spread(p, corner(room, wall), corner(room, wall + 1)) < 0
+    return between and is_between_floor_and_ceiling(room, p)
+
+
+def middle(p, q):
+    return (p[0] * q[3] + q[0] * p[3], p[1] * q[3] + q[1] * p[3], p[2] * q[3] + q[2] * p[3], 2 * p[3] * q[3])
+
+
+def stands_between(room, i, p, q):
+    """Whether in plan line i begins strictly between p and q, or crosses there."""
+    a = corner(room, i)
+    b = corner(room, i + 1)
+    if side(p, q, a) == 0:
+        return spread(a, p, q) < 0
+    return side(a, b, p) * side(a, b, q) < 0 and side(p, q, a) * side(p, q, b) < 0
+
+
+def is_clear(room, p, q):
+    """Whether it is clear from p to q, each of them inside or in an open wall."""
+    # With no corner and no crossing between, all points between are alike: inside,
+    # outside, or on one wall. So the middle speaks for them all.
+    for i in range(count_corners(room)):
+        if stands_between(room, i, p, q):
+            return False
+    return is_inside(room, middle(p, q))
+
+
+def turn_between(flat, p, q):
+    """The point of the plane strictly between p and q, which lie on either side; None if they don't."""
+    before = gap(flat, p)
+    behind = gap(flat, q)
+    if before * behind >= 0:
+        return None
+    p_share = abs(behind)
+    q_share = abs(before)
+    return tuple([p_share * p[k] + q_share * q[k] for k in range(4)])
+
+
+def turn_points(room, seen, e, walls):
+    """Where the way by the walls to e turns, by the mirror's law alone; None if it leaves no way.
+
+    seen holds the images of s. From the last turn's point on, each turn lies straight
+    between the image in its wall and the point behind it.
+    """
+    points = []
+    behind = e
+    for k in range(len(walls) - 1, -1, -1):
+        point = turn_between(plane(room, walls[k]), seen[k + 1], behind)
+        if point is None:
+            return None
+        points.append(point)
+        behind = point
+    points.reverse()
+    return points
+
+
+def is_path(room, seen, e, walls):
+    """Whether there is a path by the walls to e from s, whose images seen holds."""
+    points = turn_points(room, seen, e, walls)
+    if points is None:
+        return False
+    for k in range(len(walls)):
+        if not is_in_wall(room, walls[k], points[k]):
+            return False
+    stops = [seen[0]] + points + [e]
+    for k in range(len(stops) - 1):
+        if not is_clear(room, stops[k], stops[k + 1]):
+            return False
+    return True
+
+
+def square_between(p, q):
+    """The square of how far two whole points are from one another."""
+    return (p[0] - q[0]) * (p[0] - q[0]) + (p[1] - q[1]) * (p[1] - q[1]) + (p[2] - q[2]) * (p[2] - q[2])
+
+
 def image(sx, sy, sz, room, walls):
     """0 and the point s mirrored in the walls one after another, or the refusal."""
     refused = refusal(room, walls)
@@ -188,3 +292,18 @@ def image(sx, sy, sz, room, walls):
         return refused
     last = images(room, (sx, sy, sz, 1), walls)[-1]
     return [0, last[0], last[1], last[2]]
+
+
+def judge(sx, sy, sz, ex, ey, ez, room, walls):
+    """1 and the length squared of the path from s to e by the walls, 0 if there is none, or the refusal."""
+    refused = refusal(room, walls)
+    if len(refused) > 0:
+        return refused
+    s = (sx, sy, sz, 1)
+    e = (ex, ey, ez, 1)
+    if not is_inside(room, s) or not is_inside(room, e):
+        return [-3]
+    seen = images(room, s, walls)
+    if not is_path(room, seen, e, walls):
+        return [0]
+    return [1, square_between(seen[-1], e)]

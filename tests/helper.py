@@ -1,7 +1,10 @@
-"""Rooms that several tests use, and how a test makes one."""
+"""Rooms that several tests use, and a second way to find a path: to follow the sound."""
+
+from fractions import Fraction
 
 LEAST = -9223372036854775808
 LARGEST = 9223372036854775807
+DIRECTIONS = [(1, 0), (1, 1), (0, 1), (-1, 1), (-1, 0), (-1, -1), (0, -1), (1, -1)]
 
 
 def room_of(corners, height=6, floor=0, ceiling=0, stuffs=None):
@@ -56,3 +59,134 @@ def staircase_corners(n):
             corners.append((x, y))
     corners.append((0, y))
     return corners
+
+
+def wandered(numbers):
+    """Some corners below 7, in eight directions from one another but perhaps for the last line."""
+    corners = [(numbers.below(7), numbers.below(7))]
+    while len(corners) < 5 + numbers.below(4):
+        dx, dy = DIRECTIONS[numbers.below(8)]
+        step = 1 + numbers.below(5)
+        x, y = corners[-1][0] + dx * step, corners[-1][1] + dy * step
+        if 0 <= x < 7 and 0 <= y < 7:
+            corners.append((x, y))
+    return corners
+
+
+def corners_of(room):
+    return [(room[at], room[at + 1]) for at in range(3, len(room), 3)]
+
+
+def lines_of(room):
+    corners = corners_of(room)
+    return [(corner, corners[(i + 1) % len(corners)]) for i, corner in enumerate(corners)]
+
+
+def cross(v, w):
+    return v[0] * w[1] - v[1] * w[0]
+
+
+def is_on_line(line, x, y):
+    (ax, ay), (bx, by) = line
+    in_reach = min(ax, bx) <= x <= max(ax, bx) and min(ay, by) <= y <= max(ay, by)
+    return in_reach and cross((bx - ax, by - ay), (x - ax, y - ay)) == 0
+
+
+def is_within(room, x, y):
+    """Strictly within the lines. The ray is nearly along x, so that it passes no whole
+    corner but one that lies at x, y itself."""
+    ray = (1000003, 1)
+    crossed = 0
+    for line in lines_of(room):
+        if is_on_line(line, x, y):
+            return False
+        (ax, ay), (bx, by) = line
+        way = (bx - ax, by - ay)
+        turn = cross(ray, way)
+        along = Fraction(cross((ax - x, ay - y), way), turn)
+        share = Fraction(cross((ax - x, ay - y), ray), turn)
+        assert share not in (0, 1)
+        if along > 0 and 0 < share < 1:
+            crossed += 1
+    return crossed % 2 == 1
+
+
+def mirrored(room, wall, p):
+    lines = lines_of(room)
+    x, y, z = p
+    if wall >= len(lines):
+        return (x, y, (0 if wall == len(lines) else 2 * room[0]) - z)
+    (ax, ay), (bx, by) = lines[wall]
+    if ay == by:
+        return (x, 2 * ay - y, z)
+    if ax == bx:
+        return (2 * ax - x, y, z)
+    if bx - ax == by - ay:
+        return (ax + y - ay, ay + x - ax, z)
+    return (ax - y + ay, ay - x + ax, z)
+
+
+def touch_of_line(line, p, way):
+    """How much of the way, above 0, until in plan it touches the line; None if never, 0 if it runs on it."""
+    (ax, ay), (bx, by) = line
+    go = (way[0], way[1])
+    wall = (bx - ax, by - ay)
+    there = (ax - p[0], ay - p[1])
+    turn = cross(go, wall)
+    if turn != 0:
+        along = Fraction(cross(there, wall)) / turn
+        return along if along > 0 and 0 <= Fraction(cross(there, go)) / turn <= 1 else None
+    if is_on_line(line, p[0], p[1]):
+        return 0
+    if go == (0, 0) or cross(there, go) != 0:
+        return None
+    square = go[0] ** 2 + go[1] ** 2
+    ends = [Fraction((cx - p[0]) * go[0] + (cy - p[1]) * go[1]) / square for cx, cy in line]
+    return min(ends) if min(ends) > 0 else None
+
+
+def first_touch(room, p, way):
+    """How much of the way until it touches a wall for the first time; None if never, 0 if it runs on one."""
+    touches = [touch_of_line(line, p, way) for line in lines_of(room)]
+    if 0 in touches or (way[2] == 0 and p[2] in (0, room[0])):
+        return 0
+    if way[2] != 0:
+        touches += [Fraction(z - p[2]) / way[2] for z in (0, room[0])]
+    return min([touch for touch in touches if touch is not None and touch > 0], default=None)
+
+
+def is_in_open_wall(room, wall, p):
+    lines = lines_of(room)
+    if wall >= len(lines):
+        level = 0 if wall == len(lines) else room[0]
+        return p[2] == level and not any(is_on_line(line, p[0], p[1]) for line in lines)
+    if not 0 < p[2] < room[0] or not is_on_line(lines[wall], p[0], p[1]):
+        return False
+    return (p[0], p[1]) not in lines[wall]
+
+
+def followed(room, s, e, walls):
+    """What judge answers of s and e inside: the sound goes off towards the image of e and
+    must touch just these walls."""
+    aim = e
+    for wall in reversed(walls):
+        aim = mirrored(room, wall, aim)
+    way = tuple(a - b for a, b in zip(aim, s))
+    square = sum(k * k for k in way)
+    if square == 0:
+        return [0] if walls else [1, 0]
+    p, left = s, Fraction(1)
+    for wall in walls:
+        touch = first_touch(room, p, way)
+        if touch in (None, 0) or touch >= left:
+            return [0]
+        p, left = tuple(a + touch * b for a, b in zip(p, way)), left - touch
+        if not is_in_open_wall(room, wall, p):
+            return [0]
+        ahead = tuple(a + b for a, b in zip(p, way))
+        way = tuple(a - b for a, b in zip(mirrored(room, wall, ahead), p))
+    touch = first_touch(room, p, way)
+    if touch is not None and touch < left:
+        return [0]
+    assert tuple(a + left * b for a, b in zip(p, way)) == tuple(e)
+    return [1, square]

@@ -4,9 +4,7 @@ import unittest
 
 from roompaths.paths import image
 from tests import helper
-from tests.helper import room_of
-
-DIRECTIONS = [(1, 0), (1, 1), (0, 1), (-1, 1), (-1, 0), (-1, -1), (0, -1), (1, -1)]
+from tests.helper import DIRECTIONS, room_of
 
 
 def fault(room):
@@ -246,21 +244,10 @@ class AgainstAnotherWay(unittest.TestCase):
         numbers = helper.Numbers(7)
         seen = {}
         for _ in range(20000):
-            self.check(self.wander(numbers), seen)
+            self.check(helper.wandered(numbers), seen)
         self.assertEqual(sorted(seen), [0, 4, 5, 6, 7])
         self.assertGreater(seen[0], 50)
         self.assertGreater(seen[7], 50)
-
-    def wander(self, numbers):
-        """Corners in eight directions from one another, but perhaps for the last line."""
-        corners = [(numbers.below(7), numbers.below(7))]
-        while len(corners) < 5 + numbers.below(4):
-            dx, dy = DIRECTIONS[numbers.below(8)]
-            step = 1 + numbers.below(5)
-            x, y = corners[-1][0] + dx * step, corners[-1][1] + dy * step
-            if 0 <= x < 7 and 0 <= y < 7:
-                corners.append((x, y))
-        return corners
 
 
 if __name__ == "__main__":
