@@ -188,8 +188,8 @@ def is_within_lines(room, p):
         where = side(a, b, p)
         if where == 0 and spread(p, a, b) <= 0:
             return False
-        # A corner level with p counts as below it, so a ray that passes a corner
-        # from p along x is counted once for the two lines that meet there, or not.
+        # A corner level with p counts as below it: a ray from p along x that goes
+        # through a corner then crosses just as one a little above it would.
         a_above = a[1] * p[3] > p[1]
         b_above = b[1] * p[3] > p[1]
         if (b_above and not a_above and where > 0) or (a_above and not b_above and where < 0):
