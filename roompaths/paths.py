@@ -3,7 +3,8 @@
 A room is its list, as it is handed in.
 A point is four whole numbers (x, y, z, over): its place is x, y and z, each over
 the fourth, which is at least 1. So a fraction stays exact.
-A plane is four whole numbers (a, b, c, d): the places with a * x + b * y + c * z = d.
+A wall's plane is four whole numbers (a, b, c, d): the places with a * x + b * y + c * z = d;
+on the wall's inner side a * x + b * y + c * z is above d.
 """
 
 CORNERS_LEAST = 3
@@ -131,25 +132,12 @@ def room_fault(room):
     return []
 
 
-def refusal(room, walls):
-    """The refusal that a room and the walls call for; an empty list if there is none."""
-    fault = room_fault(room)
-    if len(fault) > 0:
-        return [-5] + fault
-    if len(walls) > WALLS_MOST:
-        return [-1]
-    for wall in walls:
-        if wall > count_corners(room) + 1:
-            return [-1]
-    return []
-
-
 def plane(room, wall):
     n = count_corners(room)
     if wall == n:
         return (0, 0, 1, 0)
     if wall == n + 1:
-        return (0, 0, 1, room[0])
+        return (0, 0, -1, -room[0])
     start = corner(room, wall)
     way = run(room, wall)
     # Eight directions: over the longer of the two, both become -1, 0 or 1.
@@ -160,7 +148,7 @@ def plane(room, wall):
 
 
 def gap(flat, p):
-    """Above 0 on one side of the plane, below 0 on the other, 0 on it."""
+    """Above 0 on the wall's inner side, below 0 on the outer one, 0 on the plane."""
     return flat[0] * p[0] + flat[1] * p[1] + flat[2] * p[2] - flat[3] * p[3]
 
 
@@ -205,6 +193,19 @@ def is_inside(room, p):
     return is_between_floor_and_ceiling(room, p) and is_within_lines(room, p)
 
 
+def refusal(room, walls, ends):
+    """The refusal that the room, the walls and the points that must be inside call for; an empty list if none."""
+    fault = room_fault(room)
+    if len(fault) > 0:
+        return [-5] + fault
+    if len(walls) > WALLS_MOST or max([0] + walls) > count_corners(room) + 1:
+        return [-1]
+    for p in ends:
+        if not is_inside(room, p):
+            return [-3]
+    return []
+
+
 def is_in_wall(room, wall, p):
     """Whether p, a point of the wall's plane, is in the open wall."""
     if wall >= count_corners(room):
@@ -236,19 +237,18 @@ def is_clear(room, p, q):
     return is_inside(room, middle(p, q))
 
 
-def turn_between(flat, p, q):
-    """The point of the plane strictly between p and q, which lie on either side; None if they don't."""
-    before = gap(flat, p)
-    behind = gap(flat, q)
-    if before * behind >= 0:
+def turn_between(flat, seen, behind):
+    """The plane's point between an image on the outer side and a point on the inner one; None if one isn't there."""
+    outer = gap(flat, seen)
+    inner = gap(flat, behind)
+    # Off a wall's outer side no leg would be inside.
+    if outer >= 0 or inner <= 0:
         return None
-    p_share = abs(behind)
-    q_share = abs(before)
-    return tuple([p_share * p[k] + q_share * q[k] for k in range(4)])
+    return tuple([inner * seen[k] - outer * behind[k] for k in range(4)])
 
 
 def turn_points(room, seen, e, walls):
-    """Where the way by the walls to e turns, by the mirror's law alone; None if it leaves no way.
+    """Where the way by the walls to e turns; None if the mirror's law leaves no way by the open walls.
 
     seen holds the images of s. From the last turn's point on, each turn lies straight
     between the image in its wall and the point behind it.
@@ -256,28 +256,41 @@ def turn_points(room, seen, e, walls):
     points = []
     behind = e
     for k in range(len(walls) - 1, -1, -1):
-        point = turn_between(plane(room, walls[k]), seen[k + 1], behind)
-        if point is None:
+        behind = turn_between(plane(room, walls[k]), seen[k + 1], behind)
+        if behind is None or not is_in_wall(room, walls[k], behind):
             return None
-        points.append(point)
-        behind = point
+        points.append(behind)
     points.reverse()
     return points
 
 
-def is_path(room, seen, e, walls):
-    """Whether there is a path by the walls to e from s, whose images seen holds."""
+def path_turns(room, seen, e, walls):
+    """Where the path by the walls to e turns, from s on, whose images seen holds; None if it is no path."""
     points = turn_points(room, seen, e, walls)
     if points is None:
-        return False
-    for k in range(len(walls)):
-        if not is_in_wall(room, walls[k], points[k]):
-            return False
+        return None
     stops = [seen[0]] + points + [e]
     for k in range(len(stops) - 1):
         if not is_clear(room, stops[k], stops[k + 1]):
-            return False
-    return True
+            return None
+    return points
+
+
+def common_divisor(numbers):
+    """The largest number that divides them all; none is below 0 and not all are 0."""
+    found = 0
+    for number in numbers:
+        other = number
+        while other != 0:
+            rest = found % other
+            found = other
+            other = rest
+    return found
+
+
+def reduced(p):
+    divisor = common_divisor(p)
+    return [number // divisor for number in p]
 
 
 def square_between(p, q):
@@ -287,7 +300,7 @@ def square_between(p, q):
 
 def image(sx, sy, sz, room, walls):
     """0 and the point s mirrored in the walls one after another, or the refusal."""
-    refused = refusal(room, walls)
+    refused = refusal(room, walls, [])
     if len(refused) > 0:
         return refused
     last = images(room, (sx, sy, sz, 1), walls)[-1]
@@ -296,14 +309,28 @@ def image(sx, sy, sz, room, walls):
 
 def judge(sx, sy, sz, ex, ey, ez, room, walls):
     """1 and the length squared of the path from s to e by the walls, 0 if there is none, or the refusal."""
-    refused = refusal(room, walls)
-    if len(refused) > 0:
-        return refused
     s = (sx, sy, sz, 1)
     e = (ex, ey, ez, 1)
-    if not is_inside(room, s) or not is_inside(room, e):
-        return [-3]
+    refused = refusal(room, walls, [s, e])
+    if len(refused) > 0:
+        return refused
     seen = images(room, s, walls)
-    if not is_path(room, seen, e, walls):
+    if path_turns(room, seen, e, walls) is None:
         return [0]
     return [1, square_between(seen[-1], e)]
+
+
+def turns(sx, sy, sz, ex, ey, ez, room, walls):
+    """0 and of each turn of the path from s to e by the walls its point, or the refusal."""
+    s = (sx, sy, sz, 1)
+    e = (ex, ey, ez, 1)
+    refused = refusal(room, walls, [s, e])
+    if len(refused) > 0:
+        return refused
+    points = path_turns(room, images(room, s, walls), e, walls)
+    if points is None:
+        return [-4]
+    told = [0]
+    for point in points:
+        told.extend(reduced(point))
+    return told

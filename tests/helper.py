@@ -36,6 +36,10 @@ ARROW = room_of(ARROW_CORNERS, height=8)
 ROOMS = (BOX, OCTAGON, L_ROOM, U_ROOM, TRIANGLE, DIAMOND, ARROW)
 
 
+def count_walls(room):
+    return len(room) // 3 + 1
+
+
 class Numbers:
     """Numbers that look thrown, but are the same at each run."""
 
@@ -111,6 +115,22 @@ def is_within(room, x, y):
     return crossed % 2 == 1
 
 
+def pairs(room, numbers, count):
+    """Some s and e, whole and inside, of a room in which no x and no y is above 12."""
+    places = [(x, y) for x in range(13) for y in range(13) if is_within(room, x, y)]
+    for _ in range(count):
+        s, e = places[numbers.below(len(places))], places[numbers.below(len(places))]
+        yield s + (1 + numbers.below(room[0] - 1),), e + (1 + numbers.below(room[0] - 1),)
+
+
+def with_other_stuffs(room, numbers):
+    """The same room, but each of its stuffs is another."""
+    other = list(room)
+    for at in [1, 2] + list(range(5, len(room), 3)):
+        other[at] = (room[at] + 1 + numbers.below(7)) % 8
+    return other
+
+
 def mirrored(room, wall, p):
     lines = lines_of(room)
     x, y, z = p
@@ -165,28 +185,67 @@ def is_in_open_wall(room, wall, p):
     return (p[0], p[1]) not in lines[wall]
 
 
-def followed(room, s, e, walls):
-    """What judge answers of s and e inside: the sound goes off towards the image of e and
-    must touch just these walls."""
+def follow(room, s, e, walls):
+    """The length squared of the path by the walls and its turns' places, for s and e inside; None
+    if it is no path. The sound goes off towards the image of e and must touch just these walls."""
     aim = e
     for wall in reversed(walls):
         aim = mirrored(room, wall, aim)
     way = tuple(a - b for a, b in zip(aim, s))
     square = sum(k * k for k in way)
     if square == 0:
-        return [0] if walls else [1, 0]
-    p, left = s, Fraction(1)
+        return None if walls else (0, [])
+    p, left, places = s, Fraction(1), []
     for wall in walls:
         touch = first_touch(room, p, way)
         if touch in (None, 0) or touch >= left:
-            return [0]
+            return None
         p, left = tuple(a + touch * b for a, b in zip(p, way)), left - touch
         if not is_in_open_wall(room, wall, p):
-            return [0]
+            return None
+        places.append(p)
         ahead = tuple(a + b for a, b in zip(p, way))
         way = tuple(a - b for a, b in zip(mirrored(room, wall, ahead), p))
     touch = first_touch(room, p, way)
     if touch is not None and touch < left:
-        return [0]
+        return None
     assert tuple(a + left * b for a, b in zip(p, way)) == tuple(e)
-    return [1, square]
+    return square, places
+
+
+def followed(room, s, e, walls):
+    """What judge answers of s and e inside."""
+    path = follow(room, s, e, walls)
+    return [0] if path is None else [1, path[0]]
+
+
+def shot(room, s, way):
+    """The walls and the places where the sound turns that goes off from s by way and as far as way, and
+    the place where it ends; None if it touches an edge or ends in a wall. A whole s and way end whole."""
+    p, left, walls, places = s, Fraction(1), [], []
+    while True:
+        touch = first_touch(room, p, way)
+        if touch is None or touch > left:
+            end = [a + left * b for a, b in zip(p, way)]
+            assert all(k == int(k) for k in end)
+            return walls, places, tuple(int(k) for k in end)
+        p, left = tuple(a + touch * b for a, b in zip(p, way)), left - touch
+        walls.extend(wall for wall in range(count_walls(room)) if is_in_open_wall(room, wall, p))
+        places.append(p)
+        if left == 0 or len(walls) != len(places):
+            return None
+        ahead = tuple(a + b for a, b in zip(p, way))
+        way = tuple(a - b for a, b in zip(mirrored(room, walls[-1], ahead), p))
+
+
+def shots(room, numbers, count, reach):
+    """Some paths: s, e, the walls, the turns' places, the length squared; each of at most four turns."""
+    places = [(x, y) for x in range(13) for y in range(13) if is_within(room, x, y)]
+    found = 0
+    while found < count:
+        s = places[numbers.below(len(places))] + (1 + numbers.below(room[0] - 1),)
+        way = tuple(numbers.below(2 * reach + 1) - reach for _ in range(3))
+        path = shot(room, s, way) if way != (0, 0, 0) else None
+        if path is not None and len(path[0]) <= 4:
+            found += 1
+            yield s, path[2], path[0], path[1], sum(k * k for k in way)

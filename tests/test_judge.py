@@ -8,10 +8,6 @@ from roompaths.paths import image, judge
 from tests import helper
 
 
-def count_walls(room):
-    return len(room) // 3 + 1
-
-
 class JudgeCase(unittest.TestCase):
     def check(self, room, s, e, walls, expected):
         """judge's answer, the other way round too, and what following the sound tells."""
@@ -148,7 +144,7 @@ class MoreWalls(JudgeCase):
 
     def test_the_same_wall_twice_behind_one_another(self):
         for room in helper.ROOMS:
-            for wall in range(count_walls(room)):
+            for wall in range(helper.count_walls(room)):
                 for walls in ([wall] * 2, [wall] * 3, [wall] * 4, [wall, wall, 0], [0, wall, wall]):
                     self.check(room, (3, 7, 3), (2, 7, 2), walls, [0])
 
@@ -170,19 +166,13 @@ class AgainstFollowing(JudgeCase):
             self.assertEqual(answer, [1, sum((a - b) ** 2 for a, b in zip(seen[1:], e))])
         return len(answer) - 1
 
-    def pairs(self, room, numbers, count):
-        places = [(x, y) for x in range(13) for y in range(13) if helper.is_within(room, x, y)]
-        for _ in range(count):
-            s, e = places[numbers.below(len(places))], places[numbers.below(len(places))]
-            yield s + (1 + numbers.below(room[0] - 1),), e + (1 + numbers.below(room[0] - 1),)
-
     def test_every_two_walls(self):
         numbers = helper.Numbers(1)
         for room in helper.ROOMS:
             paths = 0
-            for s, e in self.pairs(room, numbers, 12):
+            for s, e in helper.pairs(room, numbers, 12):
                 for k in range(3):
-                    for walls in itertools.product(range(count_walls(room)), repeat=k):
+                    for walls in itertools.product(range(helper.count_walls(room)), repeat=k):
                         paths += self.compare(room, s, e, list(walls))
             self.assertGreater(paths, 30)
 
@@ -198,8 +188,8 @@ class AgainstFollowing(JudgeCase):
         numbers = helper.Numbers(2)
         for room in helper.ROOMS:
             paths = 0
-            for s, e in self.pairs(room, numbers, 400):
-                walls = [numbers.below(count_walls(room)) for _ in range(3 + numbers.below(2))]
+            for s, e in helper.pairs(room, numbers, 400):
+                walls = [numbers.below(helper.count_walls(room)) for _ in range(3 + numbers.below(2))]
                 paths += self.compare(room, s, e, walls)
             self.assertGreater(paths, 0)
 
@@ -207,7 +197,7 @@ class AgainstFollowing(JudgeCase):
         numbers = helper.Numbers(3)
         room = helper.room_of(helper.staircase_corners(24), height=5)
         paths = 0
-        for s, e in self.pairs(room, numbers, 30):
+        for s, e in helper.pairs(room, numbers, 30):
             for walls in [[]] + [[wall] for wall in range(26)]:
                 paths += self.compare(room, s, e, walls)
         self.assertGreater(paths, 30)
@@ -220,9 +210,9 @@ class AgainstFollowing(JudgeCase):
             if image(1, 1, 1, room, [])[0] != 0:
                 continue
             rooms += 1
-            for s, e in self.pairs(room, numbers, 8):
+            for s, e in helper.pairs(room, numbers, 8):
                 for k in range(5):
-                    paths += self.compare(room, s, e, [numbers.below(count_walls(room)) for _ in range(k)])
+                    paths += self.compare(room, s, e, [numbers.below(helper.count_walls(room)) for _ in range(k)])
         self.assertGreater(paths, 100)
 
     def test_the_largest_room(self):
@@ -235,11 +225,9 @@ class AgainstFollowing(JudgeCase):
     def test_other_stuffs_change_nothing(self):
         numbers = helper.Numbers(4)
         for room in helper.ROOMS:
-            other = list(room)
-            for at in [1, 2] + list(range(5, len(room), 3)):
-                other[at] = (room[at] + 1 + numbers.below(7)) % 8
-            for s, e in self.pairs(room, numbers, 60):
-                walls = [numbers.below(count_walls(room)) for _ in range(numbers.below(5))]
+            other = helper.with_other_stuffs(room, numbers)
+            for s, e in helper.pairs(room, numbers, 60):
+                walls = [numbers.below(helper.count_walls(room)) for _ in range(numbers.below(5))]
                 self.assertEqual(judge(*s, *e, room, walls), judge(*s, *e, other, walls))
 
 
@@ -273,10 +261,10 @@ class Refused(unittest.TestCase):
         self.assertEqual(judge(3, 3, 3, 5, 5, 5, helper.BOX, [0] * 5), [-1])
         self.assertEqual(judge(3, 3, 3, 5, 5, 5, helper.BOX, [0, 1] * 20), [-1])
         for room in helper.ROOMS:
-            for wall in (count_walls(room), count_walls(room) + 1, helper.LARGEST):
+            for wall in (helper.count_walls(room), helper.count_walls(room) + 1, helper.LARGEST):
                 for walls in ([wall], [0, wall], [wall, 0, 0, 0], [0, 0, 0, wall]):
                     self.assertEqual(judge(3, 7, 3, 3, 7, 3, room, walls), [-1])
-            self.assertNotEqual(judge(3, 7, 3, 3, 7, 3, room, [count_walls(room) - 1]), [-1])
+            self.assertNotEqual(judge(3, 7, 3, 3, 7, 3, room, [helper.count_walls(room) - 1]), [-1])
 
     def test_the_order(self):
         faulty = helper.room_of(helper.BOX_CORNERS[::-1])
