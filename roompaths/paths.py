@@ -11,7 +11,7 @@ CORNERS_LEAST = 3
 CORNERS_MOST = 64
 LENGTH_MOST = 4095
 STUFF_MOST = 7
-WALLS_MOST = 4
+TURNS_MOST = 4
 
 
 def count_corners(room):
@@ -193,12 +193,13 @@ def is_inside(room, p):
     return is_between_floor_and_ceiling(room, p) and is_within_lines(room, p)
 
 
-def refusal(room, walls, ends):
-    """The refusal that the room, the walls and the points that must be inside call for; an empty list if none."""
+def refusal(room, most, walls, ends):
+    """The refusal that's called for, an empty list if none is: most is how many turns are asked for,
+    walls are those that are named, ends the points that must be inside."""
     fault = room_fault(room)
     if len(fault) > 0:
         return [-5] + fault
-    if len(walls) > WALLS_MOST or max([0] + walls) > count_corners(room) + 1:
+    if most > TURNS_MOST or max([0] + walls) > count_corners(room) + 1:
         return [-1]
     for p in ends:
         if not is_inside(room, p):
@@ -247,33 +248,23 @@ def turn_between(flat, seen, behind):
     return tuple([inner * seen[k] - outer * behind[k] for k in range(4)])
 
 
-def turn_points(room, seen, e, walls):
-    """Where the way by the walls to e turns; None if the mirror's law leaves no way by the open walls.
-
-    seen holds the images of s. From the last turn's point on, each turn lies straight
-    between the image in its wall and the point behind it.
-    """
-    points = []
-    behind = e
-    for k in range(len(walls) - 1, -1, -1):
-        behind = turn_between(plane(room, walls[k]), seen[k + 1], behind)
-        if behind is None or not is_in_wall(room, walls[k], behind):
-            return None
-        points.append(behind)
-    points.reverse()
-    return points
-
-
 def path_turns(room, seen, e, walls):
-    """Where the path by the walls to e turns, from s on, whose images seen holds; None if it is no path."""
-    points = turn_points(room, seen, e, walls)
-    if points is None:
-        return None
-    stops = [seen[0]] + points + [e]
+    """Where the path by the walls from s, whose images seen holds, to e turns; None if it is no path.
+
+    From the last turn back, each lies straight between the image in its wall and the stop behind it.
+    """
+    stops = [e]
+    for k in range(len(walls) - 1, -1, -1):
+        point = turn_between(plane(room, walls[k]), seen[k + 1], stops[-1])
+        if point is None or not is_in_wall(room, walls[k], point):
+            return None
+        stops.append(point)
+    stops.append(seen[0])
+    stops.reverse()
     for k in range(len(stops) - 1):
         if not is_clear(room, stops[k], stops[k + 1]):
             return None
-    return points
+    return stops[1:-1]
 
 
 def common_divisor(numbers):
@@ -298,9 +289,36 @@ def square_between(p, q):
     return (p[0] - q[0]) * (p[0] - q[0]) + (p[1] - q[1]) * (p[1] - q[1]) + (p[2] - q[2]) * (p[2] - q[2])
 
 
+def longer_rows(planes, rows):
+    """The rows with one more wall. A row is its walls and s mirrored in them."""
+    longer = []
+    for row in rows:
+        for wall in range(len(planes)):
+            # Sound meets a wall on its inner side, so the image that it seems to come from lies there too.
+            if gap(planes[wall], row[1]) > 0:
+                longer.append((row[0] + [wall], mirrored(planes[wall], row[1])))
+    return longer
+
+
+def ranked(square, walls):
+    """What stands in order as a path of this length squared by these walls does."""
+    return [square, len(walls)] + walls
+
+
+def ranked_rows(room, s, e, most):
+    """Every row of at most most walls that may be a path's, ranked, in order."""
+    planes = [plane(room, wall) for wall in range(count_corners(room) + 2)]
+    newest = [([], s)]
+    rows = list(newest)
+    for k in range(most):
+        newest = longer_rows(planes, newest)
+        rows.extend(newest)
+    return sorted([ranked(square_between(row[1], e), row[0]) for row in rows])
+
+
 def image(sx, sy, sz, room, walls):
     """0 and the point s mirrored in the walls one after another, or the refusal."""
-    refused = refusal(room, walls, [])
+    refused = refusal(room, len(walls), walls, [])
     if len(refused) > 0:
         return refused
     last = images(room, (sx, sy, sz, 1), walls)[-1]
@@ -311,7 +329,7 @@ def judge(sx, sy, sz, ex, ey, ez, room, walls):
     """1 and the length squared of the path from s to e by the walls, 0 if there is none, or the refusal."""
     s = (sx, sy, sz, 1)
     e = (ex, ey, ez, 1)
-    refused = refusal(room, walls, [s, e])
+    refused = refusal(room, len(walls), walls, [s, e])
     if len(refused) > 0:
         return refused
     seen = images(room, s, walls)
@@ -324,7 +342,7 @@ def turns(sx, sy, sz, ex, ey, ez, room, walls):
     """0 and of each turn of the path from s to e by the walls its point, or the refusal."""
     s = (sx, sy, sz, 1)
     e = (ex, ey, ez, 1)
-    refused = refusal(room, walls, [s, e])
+    refused = refusal(room, len(walls), walls, [s, e])
     if len(refused) > 0:
         return refused
     points = path_turns(room, images(room, s, walls), e, walls)
@@ -334,3 +352,18 @@ def turns(sx, sy, sz, ex, ey, ez, room, walls):
     for point in points:
         told.extend(reduced(point))
     return told
+
+
+def next_path(sx, sy, sz, ex, ey, ez, most, room, behind):
+    """0, the length squared and the walls of the first path of at most most turns behind a row, or the refusal."""
+    s = (sx, sy, sz, 1)
+    e = (ex, ey, ez, 1)
+    refused = refusal(room, most, [], [s, e])
+    if len(refused) > 0:
+        return refused
+    last = ranked(behind[0], behind[1:]) if len(behind) > 0 else []
+    for row in ranked_rows(room, s, e, most):
+        walls = row[2:]
+        if row > last and path_turns(room, images(room, s, walls), e, walls) is not None:
+            return [0, row[0]] + walls
+    return [-2]
