@@ -40,6 +40,8 @@ def walked(room, s, e, most):
         if answer == [-2]:
             return found
         assert answer[0] == 0 and len(answer) > 1, answer
+        # So a path that is told again ends the walk too.
+        assert not row or compare(row, answer[1:]) < 0, (row, answer)
         row = answer[1:]
         found.append(row)
 
@@ -179,10 +181,11 @@ class LargeRooms(NextCase):
             path = [length] + walls
             # A row that's a little ahead of the path.
             row = path[:-1] + [path[-1] - 1] if path[-1] > 0 else path[:-1]
-            told = next_path(*s, *e, most, room, row)[1:]
-            while compare(told, path) < 0:
-                told = next_path(*s, *e, most, room, told)[1:]
-            self.assertEqual(told, path)
+            while compare(row, path) < 0:
+                told = next_path(*s, *e, most, room, row)[1:]
+                self.assertLess(compare(row, told), 0)
+                row = told
+            self.assertEqual(row, path)
 
     def test_four_turns_by_eleven_walls(self):
         corners = [(2, 0), (8, 0), (12, 4), (12, 10), (10, 12), (6, 8), (4, 10), (0, 10), (0, 2)]
@@ -257,6 +260,14 @@ class WhateverRow(NextCase):
         # The row has more walls than most, but a path of so many walls would not be behind it.
         self.assertEqual(next_path(*self.S, *self.E, 1, self.ROOM, [116, 1, 2]), [-2])
         self.assertEqual(next_path(*self.S, *self.E, 1, self.ROOM, [68, 1, 2]), [0, 116, 3])
+
+    def test_more_walls_than_four_behind_paths_of_four(self):
+        s, e = (10, 1, 2), (1, 4, 3)
+        found = judged(helper.TRIANGLE, s, e, 4)
+        lengths = sorted({path[0] for path in found if len(path) == 5})
+        self.assertGreater(len(lengths), 3)
+        for length in lengths:
+            self.check_rows(helper.TRIANGLE, s, e, 4, found, [[length] + [0] * many for many in (3, 4, 5, 39)])
 
     def test_walls_that_the_room_does_not_have(self):
         for path in self.found:
