@@ -267,6 +267,10 @@ def path_turns(room, seen, e, walls):
     return stops[1:-1]
 
 
+def is_path(room, s, e, walls):
+    return path_turns(room, images(room, s, walls), e, walls) is not None
+
+
 def common_divisor(numbers):
     """The largest number that divides them all; none is below 0 and not all are 0."""
     found = 0
@@ -363,7 +367,17 @@ def next_path(sx, sy, sz, ex, ey, ez, most, room, behind):
         return refused
     last = ranked(behind[0], behind[1:]) if len(behind) > 0 else []
     for row in ranked_rows(room, s, e, most):
-        walls = row[2:]
-        if row > last and path_turns(room, images(room, s, walls), e, walls) is not None:
-            return [0, row[0]] + walls
+        if row > last and is_path(room, s, e, row[2:]):
+            return [0, row[0]] + row[2:]
     return [-2]
+
+
+def count(sx, sy, sz, ex, ey, ez, most, within, room):
+    """0 and how many paths of at most most turns have a length squared that isn't above within, or the refusal."""
+    s = (sx, sy, sz, 1)
+    e = (ex, ey, ez, 1)
+    refused = refusal(room, most, [], [s, e])
+    if len(refused) > 0:
+        return refused
+    rows = ranked_rows(room, s, e, most)
+    return [0, len([row for row in rows if row[0] <= within and is_path(room, s, e, row[2:])])]

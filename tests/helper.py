@@ -1,6 +1,11 @@
-"""Rooms that several tests use, and a second way to find a path: to follow the sound."""
+"""Rooms that several tests use, a second way to find a path: to follow the sound, and all paths
+of a room as judge and next_path tell them."""
 
+import functools
+import itertools
 from fractions import Fraction
+
+from roompaths.paths import judge, next_path
 
 LEAST = -9223372036854775808
 LARGEST = 9223372036854775807
@@ -249,3 +254,40 @@ def shots(room, numbers, count, reach):
         if path is not None and len(path[0]) <= 4:
             found += 1
             yield s, path[2], path[0], path[1], sum(k * k for k in way)
+
+
+def compare(one, other):
+    """Below 0, 0 or above 0: two rows in order as paths are, in the document's words."""
+    if one[0] != other[0]:
+        return one[0] - other[0]
+    if len(one) != len(other):
+        return len(one) - len(other)
+    for a, b in zip(one[1:], other[1:]):
+        if a != b:
+            return a - b
+    return 0
+
+
+def judged(room, s, e, most):
+    """All paths of at most most turns, in order, as judge finds them by all rows of walls."""
+    found = []
+    for k in range(most + 1):
+        for walls in itertools.product(range(count_walls(room)), repeat=k):
+            answer = judge(*s, *e, room, list(walls))
+            if answer[0] == 1:
+                found.append([answer[1]] + list(walls))
+    return sorted(found, key=functools.cmp_to_key(compare))
+
+
+def walked(room, s, e, most):
+    """The paths that next_path tells, from an empty row on until there is none."""
+    row, found = [], []
+    while True:
+        answer = next_path(*s, *e, most, room, row)
+        if answer == [-2]:
+            return found
+        assert answer[0] == 0 and len(answer) > 1, answer
+        # So a path that is told again ends the walk too.
+        assert not row or compare(row, answer[1:]) < 0, (row, answer)
+        row = answer[1:]
+        found.append(row)
