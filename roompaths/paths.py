@@ -381,3 +381,16 @@ def count(sx, sy, sz, ex, ey, ez, most, within, room):
         return refused
     rows = ranked_rows(room, s, e, most)
     return [0, len([row for row in rows if row[0] <= within and is_path(room, s, e, row[2:])])]
+
+
+def nth(sx, sy, sz, ex, ey, ez, most, i, room):
+    """0, the length squared and the walls of path number i, from 0, of at most most turns, or the refusal."""
+    s = (sx, sy, sz, 1)
+    e = (ex, ey, ez, 1)
+    refused = refusal(room, most, [], [s, e])
+    if len(refused) > 0:
+        return refused
+    paths = [row for row in ranked_rows(room, s, e, most) if is_path(room, s, e, row[2:])]
+    if i >= len(paths):
+        return [-2]
+    return [0, paths[i][0]] + paths[i][2:]
